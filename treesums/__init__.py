@@ -1,0 +1,1 @@
+"""Boughs: sums of files as trees."""
