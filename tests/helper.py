@@ -16,6 +16,11 @@ NAME = list(b"BLAKE3 2019-12-27 16:29:52 test vectors context")
 WAYS = {"plain": (0, []), "key": (1, KEY), "name": (2, NAME)}
 
 REFUSED = [-1]
+UNFIT = [-2]
+NO_SLICE = [-3]
+
+# The largest number that a call takes.
+FARTHEST = 1099511627775
 
 
 def way(kind, row):
@@ -40,6 +45,36 @@ def mix(words):
 
 def outline(row):
     return [6, len(row), *row]
+
+
+def slice_of(row, told, at, count):
+    return [7, at, count, len(row), *row, len(told), *told]
+
+
+def change(row, told, at, count):
+    return [8, at, count, len(row), *row, len(told), *told]
+
+
+def open_slice(total, at, count):
+    return [9, at, count, len(total), *total]
+
+
+def feed(row):
+    return [10, len(row), *row]
+
+
+def place():
+    return [11]
+
+
+def listed(row):
+    """A list as it's answered."""
+    return [len(row), *row]
+
+
+def fed(status, *parts):
+    """What feed answers: the status, and the parts shown, each as (place in the file, bytes)."""
+    return [status, len(parts)] + [number for begin, row in parts for number in (begin, *listed(row))]
 
 
 def ask(*calls):
@@ -166,3 +201,124 @@ def tree_way(kind, row):
 
 def tree_of(kind, row, data):
     return Tree(*tree_way(kind, row), data)
+
+
+def chosen_chunks(many, at, count):
+    """The numbers of the chosen chunks of a file of so many bytes."""
+    last = max(1, -(-many // 1024)) - 1
+    end = at + count - 1 if count else at
+    return range(min(at // 1024, last), min(end // 1024, last) + 1)
+
+
+def slice_nodes(data, told, at, count):
+    """The nodes of a slice in its order, the length first: of each its bytes, its chunk's number or None for a
+    parent, and, of a parent, its place in the outline."""
+    chosen = chosen_chunks(len(data), at, count)
+    found = [(list(len(data).to_bytes(8, "little")), None, None)]
+    parents = iter(range(len(told) // 64))
+
+    def go(first, chunks):
+        wanted = any(first <= number < first + chunks for number in chosen)
+        if chunks == 1:
+            if wanted:
+                found.append((data[1024 * first:1024 * first + 1024], first, None))
+            return
+        parent = next(parents)
+        if wanted:
+            found.append((told[64 * parent:64 * parent + 64], None, parent))
+        left = 1 << ((chunks - 1).bit_length() - 1)
+        go(first, left)
+        go(first + left, chunks - left)
+
+    go(0, max(1, -(-len(data) // 1024)))
+    return found
+
+
+def tree_slice(data, told, at, count):
+    return [byte for row, _, _ in slice_nodes(data, told, at, count) for byte in row]
+
+
+class Ended(Exception):
+    """A check of a slice ends before the slice does; told is the status."""
+
+    def __init__(self, status):
+        super().__init__(status)
+        self.status = status
+
+
+class Check:
+    """All bytes of a slice that came so far, checked in one go down the tree."""
+
+    def __init__(self, key, flags, total, at, count, came):
+        self.tree = Tree(key, flags, [])
+        self.asked = at, count
+        self.came = came
+        self.place = 0
+        self.shown = []
+        try:
+            many = int.from_bytes(bytes(self.take(8)), "little")
+            if many > 65536:
+                raise Ended(2)
+            self.place = 8
+            self.go(0, max(1, -(-many // 1024)), many, total, 8)
+            self.status = 1
+        except Ended as end:
+            self.status = end.status
+
+    def take(self, many):
+        row = self.came[self.place:self.place + many]
+        if len(row) < many:
+            raise Ended(0)
+        return row
+
+    def go(self, first, chunks, many, claim, root):
+        """One node and all under it; many are the file's bytes, claim what the node must give."""
+        key, flags = self.tree.key, self.tree.flags
+        if chunks == 1:
+            row = self.take(min(1024, many - 1024 * first))
+            # The chunk's own number counts only with the bytes in its place.
+            self.tree.data = [0] * (1024 * first) + row
+            h, m, t, l, f = self.tree.chunk(first)
+        else:
+            row = self.take(64)
+            h, m, t, l, f = key, to_words(row), 0, 64, flags + 4
+        if to_bytes(tree_compress(h, m, t, l, f + root)[:8]) != claim:
+            raise Ended(2)
+        self.place += len(row)
+        if chunks == 1:
+            self.show(first, row)
+            return
+        left = 1 << ((chunks - 1).bit_length() - 1)
+        for begin, size, state in ((first, left, row[:32]), (first + left, chunks - left, row[32:])):
+            if any(begin <= number < begin + size for number in chosen_chunks(many, *self.asked)):
+                self.go(begin, size, many, state, 0)
+
+    def show(self, number, row):
+        at, count = self.asked
+        places = [place for place in range(1024 * number, 1024 * number + len(row)) if at <= place < at + count]
+        if places:
+            self.shown.append((places[0], [row[place - 1024 * number] for place in places]))
+
+
+def check_answers(kind, row, total, at, count, pieces):
+    """What feed and place answer behind each of the pieces, by the way of a call's k and s."""
+    key, flags = tree_way(kind, row)
+    expected = []
+    came = []
+    before = 0
+    for piece in pieces:
+        came = came + piece
+        check = Check(key, flags, total, at, count, came)
+        expected += [fed(check.status, *check.shown[before:]), [check.place]]
+        before = len(check.shown)
+    return expected
+
+
+def cut(row, *places):
+    """A list cut at these places."""
+    edges = [0, *places, len(row)]
+    return [row[begin:end] for begin, end in zip(edges, edges[1:])]
+
+
+def feed_and_place(pieces):
+    return [call for piece in pieces for call in (feed(piece), place())]

@@ -22,6 +22,13 @@ WORDS = re.compile(
     r"\b(type|typing|typing_extensions|enum|Enum|IntEnum|StrEnum|Flag|IntFlag|Generic|Protocol|ABC|ABCMeta|namedtuple"
     r"|NamedTuple|TypedDict|TYPE_CHECKING|abstractmethod)\b|dataclass|overload|contextmanager"
 )
+UNUSED = set(
+    "register mro elements open input version_info with_traceback add_note attrgetter breakpoint builtins compile "
+    "copyright credits delattr dir eval exec exit gc getattr globals hasattr help id importlib license locals "
+    "methodcaller os quit setattr super type vars sys".split()
+)
+VALUES_OF_OBJECTS = set("count index title find get join lower upper split strip copy add".split())
+WALKED = ("zip", "enumerate", "reversed", "range")
 FORBIDDEN = (
     ast.With, ast.Match, ast.Delete, ast.Global, ast.Nonlocal, ast.Assert, ast.Yield, ast.YieldFrom, ast.Await,
     ast.AsyncFunctionDef, ast.AsyncFor, ast.AsyncWith, ast.Set, ast.SetComp, ast.DictComp, ast.GeneratorExp,
@@ -118,6 +125,46 @@ class Names(unittest.TestCase):
             self.assertFalse(node.id.startswith("_"), place)
         for place, node in nodes(ast.arg):
             self.assertNotIn(node.arg, builtin, place)
+
+    def test_names_that_are_not_used(self):
+        for place, node in nodes(ast.Name, ast.Attribute, ast.FunctionDef, ast.ClassDef, ast.arg, ast.alias):
+            for field in ("id", "attr", "name", "arg"):
+                self.assertNotIn(getattr(node, field, None), UNUSED, place)
+
+    def test_locals_are_not_called_like_classes_or_imports(self):
+        for path, tree in parsed().items():
+            taken = {row.name for row in tree.body if isinstance(row, ast.ClassDef)}
+            taken |= {alias.name for row in tree.body if isinstance(row, ast.ImportFrom) for alias in row.names}
+            for node in ast.walk(tree):
+                if isinstance(node, ast.Name) and isinstance(node.ctx, ast.Store):
+                    self.assertNotIn(node.id, taken, f"{path.name}:{node.lineno}")
+                if isinstance(node, ast.arg):
+                    self.assertNotIn(node.arg, taken, f"{path.name}:{node.lineno}")
+
+    def test_values_of_objects(self):
+        """None is called like something that Python's own values have."""
+        own = {name for kind in (str, int, list, dict, set, bytes, tuple) for name in dir(kind)} - VALUES_OF_OBJECTS
+        for place, node in nodes(ast.Attribute):
+            if isinstance(node.ctx, ast.Store):
+                self.assertNotIn(node.attr, own, place)
+
+    def test_walked_on_the_spot(self):
+        spots = set()
+        for place, node in nodes(ast.For, ast.comprehension):
+            spots.add(ast.dump(node.iter, include_attributes=True))
+        for place, node in nodes(ast.Call):
+            if isinstance(node.func, ast.Name) and node.func.id in WALKED:
+                self.assertIn(ast.dump(node, include_attributes=True), spots, place)
+
+    def test_files_draw_in_one_direction(self):
+        drawn = {}
+        for path, tree in parsed().items():
+            drawn[path.stem] = {row.module.split(".")[1] for row in tree.body if isinstance(row, ast.ImportFrom)}
+        left = dict(drawn)
+        while left:
+            free = [name for name in left if not drawn[name] & set(left)]
+            self.assertTrue(free, sorted(left))
+            left = {name: drawn[name] for name in left if name not in free}
 
     def test_methods_are_listed_or_own(self):
         own = set()

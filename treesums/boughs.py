@@ -1,9 +1,13 @@
 """One object and the calls on it."""
 
 from treesums.mixing import mixed
-from treesums.trees import Growth, outline_and_sum, plain_way, put_out, way_by_key, way_by_name
+from treesums.outlines import mended_and_sum, outline_and_sum, outline_length
+from treesums.slices import MORE_WANTED, SliceCheck, slice_of
+from treesums.trees import SUM, Growth, plain_way, put_out, way_by_key, way_by_name
 
 REFUSED = -1
+UNFIT = -2
+NO_SLICE = -3
 
 WAY = 1
 ADD = 2
@@ -11,6 +15,11 @@ LENGTH = 3
 READ = 4
 MIX = 5
 OUTLINE = 6
+SLICE = 7
+CHANGE = 8
+OPEN = 9
+FEED = 10
+PLACE = 11
 
 PLAIN = 0
 KEY = 1
@@ -54,10 +63,11 @@ class Line:
 
 
 class Boughs:
-    """The object: its growth has the way and the bytes."""
+    """The object: its growth has the way and the bytes; its check is of the slice to come, None if there's none."""
 
     def __init__(self):
         self.growth = Growth(plain_way())
+        self.check = None
 
 
 def counted(row):
@@ -80,6 +90,7 @@ def answer_way(boughs, kind, row):
     if way is None:
         return [REFUSED]
     boughs.growth = Growth(way)
+    boughs.check = None
     return way.key + [way.flags]
 
 
@@ -113,9 +124,57 @@ def answer_outline(boughs, row):
     return counted(both[0]) + counted(both[1])
 
 
-def answer_next(boughs, line):
-    """Takes one call from the line and answers it."""
-    call = line.take_number()
+def answer_slice(row, outline, begin, many):
+    if len(row) > MOST_FILE:
+        return [REFUSED]
+    if len(outline) != outline_length(len(row)):
+        return [UNFIT]
+    return counted(slice_of(row, outline, begin, many))
+
+
+def placed(parts):
+    """How many parts there are; of each its place and its bytes."""
+    given = [len(parts)]
+    for place, row in parts:
+        given.append(place)
+        given.extend(counted(row))
+    return given
+
+
+def answer_change(boughs, row, outline, begin, many):
+    if len(row) > MOST_FILE:
+        return [REFUSED]
+    if len(outline) != outline_length(len(row)) or begin + many > len(row):
+        return [UNFIT]
+    both = mended_and_sum(boughs.growth.way, row, outline, begin, many)
+    return placed(both[0]) + counted(both[1])
+
+
+def answer_open(boughs, total, begin, many):
+    if len(total) != SUM:
+        return [REFUSED]
+    boughs.check = SliceCheck(boughs.growth.way, total, begin, many)
+    return [0]
+
+
+def answer_feed(boughs, row):
+    check = boughs.check
+    if check is None:
+        return [NO_SLICE]
+    # What is ended takes no more bytes, so there can't be too many of it.
+    if check.outcome == MORE_WANTED and check.fed() + len(row) > MOST_BYTES:
+        return [REFUSED]
+    shown = check.feed(row)
+    return [check.outcome] + placed(shown)
+
+
+def answer_place(boughs):
+    if boughs.check is None:
+        return [NO_SLICE]
+    return [boughs.check.place]
+
+
+def answer_of_sums(boughs, call, line):
     if call == WAY:
         kind = line.take_number()
         return answer_way(boughs, kind, line.take_row())
@@ -131,6 +190,32 @@ def answer_next(boughs, line):
     if call == OUTLINE:
         return answer_outline(boughs, line.take_row())
     raise UnknownCall(str(call))
+
+
+def answer_of_slices(boughs, call, line):
+    if call == FEED:
+        return answer_feed(boughs, line.take_row())
+    if call == PLACE:
+        return answer_place(boughs)
+    if call > PLACE:
+        raise UnknownCall(str(call))
+    begin = line.take_number()
+    many = line.take_number()
+    row = line.take_row()
+    if call == OPEN:
+        return answer_open(boughs, row, begin, many)
+    outline = line.take_row()
+    if call == CHANGE:
+        return answer_change(boughs, row, outline, begin, many)
+    return answer_slice(row, outline, begin, many)
+
+
+def answer_next(boughs, line):
+    """Takes one call from the line and answers it."""
+    call = line.take_number()
+    if call < SLICE:
+        return answer_of_sums(boughs, call, line)
+    return answer_of_slices(boughs, call, line)
 
 
 def answers(calls):

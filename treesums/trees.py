@@ -1,4 +1,4 @@
-"""Trees over the chunks of a file: ways, nodes, the root and the outline."""
+"""Trees over the chunks of bytes: ways, nodes and the root."""
 
 from treesums.mixing import START, bytes_of, compressed, words_of
 
@@ -133,50 +133,3 @@ def way_by_key(row):
 def way_by_name(row):
     root = root_of(Way(list(START), OF_NAME), row)
     return Way(words_of(sum_of(root)), BY_NAME)
-
-
-def left_part(chunks):
-    """How many of a parent's chunks are on the left."""
-    part = 1
-    while part * 2 < chunks:
-        part *= 2
-    return part
-
-
-def spans_of(length):
-    """All nodes of a file's tree in the outline's order, each as (first chunk, how many chunks)."""
-    spans = []
-    waiting = [(0, max(1, (length + CHUNK - 1) // CHUNK))]
-    while len(waiting) > 0:
-        span = waiting.pop()
-        spans.append(span)
-        if span[1] > 1:
-            left = left_part(span[1])
-            waiting.append((span[0] + left, span[1] - left))
-            waiting.append((span[0], left))
-    return spans
-
-
-def node_of(way, row, span, nodes):
-    """The node of a span of a file, whose parts' nodes are there already."""
-    first = span[0]
-    chunks = span[1]
-    if chunks == 1:
-        return chunk_node(way, first, row[first * CHUNK:(first + 1) * CHUNK])
-    left = left_part(chunks)
-    left_node = nodes[(first, left)]
-    right_node = nodes[(first + left, chunks - left)]
-    return parent_node(way, left_node.state(), right_node.state())
-
-
-def outline_and_sum(way, row):
-    spans = spans_of(len(row))
-    nodes = {}
-    # Each node stands before what's under it, so backwards the parts come first.
-    for span in reversed(spans):
-        nodes[span] = node_of(way, row, span, nodes)
-    outline = []
-    for span in spans:
-        if span[1] > 1:
-            outline.extend(bytes_of(nodes[span].block))
-    return [outline, sum_of(nodes[spans[0]])]
